@@ -3,16 +3,21 @@
 Each call gives back the list of numbers it answers.
 """
 
+from canonways.bounds import all_within
 from canonways.events import MOST_EVENTS, read_events, whole_length, write_events
-from canonways.meetings import cost_of_two, laid
+from canonways.finding import has_too_many_ways, read_search, ways_to_try, write_found
+from canonways.meetings import cost_against_all, cost_of_all, laid, meeting_costs
 from canonways.prices import first_prices, read_prices
-from canonways.ways import can_be_had, events_by_way, read_way
+from canonways.ways import Way, can_be_had, events_by_way, read_way
 
 WRONG_NUMBERS = -1
+TOO_MANY_WAYS = -2
 NOT_POSSIBLE = -3
 WRONG_COUNT = -5
 NO_THEME = -7
 MOST_OTHER_VOICES = 4
+# How much later each voice of a round is than the one ahead, how many there are.
+ROUND_RANGES = ((1, 4096), (2, 6))
 
 
 class Canon:
@@ -51,8 +56,8 @@ class Canon:
             return [WRONG_COUNT]
         if not can_be_had(self.events, way):
             return [NOT_POSSIBLE]
-        voice = laid(events_by_way(self.events, way), way.later)
-        cost = self.cost_against_all(voice)
+        voice = self.voice_by_way(way)
+        cost = cost_against_all(voice, self.all_voices(), self.prices)
         self.other_voices.append(voice)
         return [len(self.other_voices), cost]
 
@@ -73,9 +78,59 @@ class Canon:
         events = events_by_way(self.events, way)
         return [len(events)] + write_events(events)
 
+    def show_cost(self):
+        if not self.events:
+            return [NO_THEME]
+        voices = self.all_voices()
+        return [cost_of_all(voices, self.prices), len(voices)]
+
+    def show_bad(self, numbers):
+        if not self.events:
+            return [NO_THEME]
+        voices = self.all_voices()
+        if not all_within(numbers, [(0, len(voices) - 1)] * 2) or numbers[0] == numbers[1]:
+            return [WRONG_NUMBERS]
+        meetings = meeting_costs(voices[numbers[0]], voices[numbers[1]], self.prices)
+        bad = [meeting for meeting in meetings if meeting[1] > 0]
+        answer = [len(bad)]
+        for meeting in bad:
+            answer.extend(meeting)
+        return answer
+
+    def find_ways(self, numbers):
+        if not self.events:
+            return [NO_THEME]
+        search = read_search(numbers)
+        if search is None:
+            return [WRONG_NUMBERS]
+        if has_too_many_ways(search):
+            return [TOO_MANY_WAYS]
+        return write_found(self.found_by(search))
+
+    def show_round(self, numbers):
+        if not self.events:
+            return [NO_THEME]
+        if not all_within(numbers, ROUND_RANGES):
+            return [WRONG_NUMBERS]
+        voices = [laid(self.events, place * numbers[0]) for place in range(numbers[1])]
+        return [cost_of_all(voices, self.prices)]
+
     def all_voices(self):
         """Voice 0, which is the theme from time 0, and the others."""
         return [laid(self.events, 0)] + self.other_voices
 
-    def cost_against_all(self, voice):
-        return sum([cost_of_two(there, voice, self.prices) for there in self.all_voices()])
+    def voice_by_way(self, way):
+        return laid(events_by_way(self.events, way), way.later)
+
+    def found_by(self, search):
+        """Of each way found, in the order in which they are tried: what it would cost, and its five numbers."""
+        voices = self.all_voices()
+        found = []
+        for numbers in ways_to_try(search):
+            way = Way(numbers)
+            if not can_be_had(self.events, way):
+                continue
+            cost = cost_against_all(self.voice_by_way(way), voices, self.prices)
+            if cost <= search.most:
+                found.append((cost,) + numbers)
+        return found

@@ -80,3 +80,12 @@ def meeting_costs(one, other, prices):
 
 def cost_of_two(one, other, prices):
     return sum([meeting[1] for meeting in meeting_costs(one, other, prices)])
+
+
+def cost_against_all(voice, others, prices):
+    return sum([cost_of_two(other, voice, prices) for other in others])
+
+
+def cost_of_all(voices, prices):
+    """What all two of the voices cost."""
+    return sum([cost_against_all(voice, voices[:place], prices) for place, voice in enumerate(voices)])

@@ -7,6 +7,9 @@ PRICES = 2
 WAY = 3
 DROP = 4
 VOICE = 5
+COST = 6
+BAD = 7
+FIND = 8
 
 
 def answers(calls):
@@ -36,4 +39,11 @@ def answer_of(canon, call, numbers):
         return canon.drop_last()
     if call == VOICE:
         return canon.show_voice(numbers)
-    raise NotImplementedError(f"call {call}")
+    if call == COST:
+        return canon.show_cost()
+    if call == BAD:
+        return canon.show_bad(numbers)
+    if call == FIND:
+        return canon.find_ways(numbers)
+    # No other calls than the nine are handed in, so what is left is round.
+    return canon.show_round(numbers)

@@ -35,6 +35,22 @@ def voice(*numbers):
     return call(5, numbers)
 
 
+def cost():
+    return call(6, [])
+
+
+def bad(one, other):
+    return call(7, [one, other])
+
+
+def find(most, start, to, step, lowest, highest):
+    return call(8, [most, start, to, step, lowest, highest])
+
+
+def in_round(late, many):
+    return call(9, [late, many])
+
+
 def ask(*calls):
     """The answers to the calls, each a list of its own."""
     given = answers([number for one in calls for number in one])

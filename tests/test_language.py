@@ -13,7 +13,7 @@ Expr Constant Name Load Store List Tuple Dict BinOp UnaryOp BoolOp Compare IfExp
 ListComp comprehension JoinedStr FormattedValue keyword arguments arg Add Sub Mult FloorDiv Mod BitAnd BitOr BitXor
 USub Not And Or Eq NotEq Lt LtE Gt GtE Is IsNot In NotIn""".split()
 PYTHONS_OWN = """len range enumerate zip min max sum abs sorted reversed int str bool list tuple dict set frozenset
-isinstance ord repr any all divmod NotImplementedError""".split()
+isinstance ord repr any all divmod""".split()
 METHODS = """append clear copy count endswith extend find get index insert items join keys pop remove replace reverse
 setdefault update values""".split()
 WORDS = """type typing typing_extensions enum Enum IntEnum StrEnum Flag IntFlag Generic Protocol ABC ABCMeta namedtuple
